@@ -1,0 +1,1 @@
+"""Ordered ticket pricing with a limited price step."""
