@@ -1,6 +1,8 @@
 """The planner of ticket prices: reads a list of calls and answers each of them."""
 
-from blockprices.pricing import Block, attendance_at, best_ordered, best_singles, revenue_at, revenue_table
+from blockprices.ordering import keeps_order, ordered_lists
+from blockprices.pricing import Block, attendance_at, attendance_table, revenue_at, revenue_table
+from blockprices.pricing import best_listed, best_ordered, best_singles, total_at
 
 GREATEST_PRICE = 7
 GREATEST_STEP = 7
@@ -11,6 +13,7 @@ NO_BLOCK = -2
 NO_PLANNER = -11
 OUT_OF_RANGE = -22
 TOO_MANY_BLOCKS = -28
+NO_PRICE_LIST = -33
 
 CREATE = 0
 
@@ -54,8 +57,20 @@ def is_demand(planner, demand):
     return demand == sorted(demand, reverse=True)
 
 
+def is_price_list(planner, prices):
+    return len(prices) == len(planner.blocks) and max(prices, default=0) <= planner.max_price
+
+
 def revenue_tables(planner):
     return [revenue_table(block) for block in planner.blocks]
+
+
+def attendance_tables(planner):
+    return [attendance_table(block) for block in planner.blocks]
+
+
+def all_ordered(planner):
+    return ordered_lists(len(planner.blocks), planner.max_price, planner.max_step)
 
 
 def best_choice(planner):
@@ -64,6 +79,10 @@ def best_choice(planner):
 
 def single_choice(planner):
     return best_singles(revenue_tables(planner))
+
+
+def told_whole(choice):
+    return [choice.total] + choice.prices
 
 
 def create(session, arguments):
@@ -159,17 +178,95 @@ def revenue(planner, arguments):
 
 
 def best_prices(planner, arguments):
-    best = best_choice(planner)
-    return [best.total] + best.prices
+    return told_whole(best_choice(planner))
 
 
 def unconstrained_prices(planner, arguments):
-    single = single_choice(planner)
-    return [single.total] + single.prices
+    return told_whole(single_choice(planner))
 
 
 def ordering_loss(planner, arguments):
     return [single_choice(planner).total - best_choice(planner).total]
+
+
+def total_revenue(planner, arguments):
+    prices = arguments[0]
+    if not is_price_list(planner, prices):
+        return [OUT_OF_RANGE]
+    return [total_at(revenue_tables(planner), prices)]
+
+
+def is_ordered(planner, arguments):
+    prices = arguments[0]
+    if not is_price_list(planner, prices):
+        return [OUT_OF_RANGE]
+    return [1 if keeps_order(prices, planner.max_step) else 0]
+
+
+def total_attendance(planner, arguments):
+    prices = arguments[0]
+    if not is_price_list(planner, prices):
+        return [OUT_OF_RANGE]
+    return [total_at(attendance_tables(planner), prices)]
+
+
+def count_ordered(planner, arguments):
+    return [len(all_ordered(planner))]
+
+
+def best_with_price(planner, arguments):
+    block = arguments[0]
+    price = arguments[1]
+    refused = refusal_at(planner, block, price)
+    if refused:
+        return refused
+    lists = [prices for prices in all_ordered(planner) if prices[block] == price]
+    return told_whole(best_listed(revenue_tables(planner), lists))
+
+
+def best_with_attendance(planner, arguments):
+    min_attendance = arguments[0]
+    tables = attendance_tables(planner)
+    lists = [prices for prices in all_ordered(planner) if total_at(tables, prices) >= min_attendance]
+    if not lists:
+        return [NO_PRICE_LIST]
+    return told_whole(best_listed(revenue_tables(planner), lists))
+
+
+def best_single_price(planner, arguments):
+    block = arguments[0]
+    if not has_block(planner, block):
+        return [NO_BLOCK]
+    single = best_singles([revenue_table(planner.blocks[block])])
+    return [single.prices[0], single.total]
+
+
+def revenue_if_step(planner, arguments):
+    step = arguments[0]
+    if step > GREATEST_STEP:
+        return [OUT_OF_RANGE]
+    return [best_ordered(revenue_tables(planner), planner.max_price, step).total]
+
+
+def revenue_without(planner, arguments):
+    block = arguments[0]
+    if not has_block(planner, block):
+        return [NO_BLOCK]
+    tables = revenue_tables(planner)
+    tables.pop(block)
+    return [best_ordered(tables, planner.max_price, planner.max_step).total]
+
+
+def get_block(planner, arguments):
+    block = arguments[0]
+    if not has_block(planner, block):
+        return [NO_BLOCK]
+    told = planner.blocks[block]
+    return [told.seats] + told.demand
+
+
+def get_state(planner, arguments):
+    return [len(planner.blocks), planner.max_price, planner.max_step]
 
 
 # create is not among them: it alone does without a planner.
@@ -185,6 +282,17 @@ OPERATIONS = {
     9: best_prices,
     10: unconstrained_prices,
     11: ordering_loss,
+    12: total_revenue,
+    13: is_ordered,
+    14: total_attendance,
+    15: count_ordered,
+    16: best_with_price,
+    17: best_with_attendance,
+    18: best_single_price,
+    19: revenue_if_step,
+    20: revenue_without,
+    21: get_block,
+    22: get_state,
 }
 
 

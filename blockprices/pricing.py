@@ -27,6 +27,16 @@ def revenue_table(block):
     return [revenue_at(block, price) for price in range(len(block.demand))]
 
 
+# The attendance of the block at each price from 0 on.
+def attendance_table(block):
+    return [attendance_at(block, price) for price in range(len(block.demand))]
+
+
+# The tables hold a block's revenue or its attendance at each price, one table for each block.
+def total_at(tables, prices):
+    return sum([table[price] for table, price in zip(tables, prices)])
+
+
 # Every block at its best single price. index finds the first place, so the lowest price wins a tie.
 def best_singles(tables):
     prices = [table.index(max(table)) for table in tables]
@@ -54,8 +64,12 @@ def led_by(price, earned, choices, max_step):
     return Choice(earned + rest.total, [price] + rest.prices)
 
 
-# The choices stand in the order of their first prices, so the first of equally good ones is the
-# lexicographically smallest.
+# The best of these price lists, which stand in lexicographic order; there is at least one.
+def best_listed(tables, lists):
+    return first_best([Choice(total_at(tables, prices), prices) for prices in lists])
+
+
+# The choices stand in lexicographic order, so the first of equally good ones is the smallest.
 def first_best(choices):
     best = choices[0]
     for choice in choices:

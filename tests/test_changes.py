@@ -16,6 +16,17 @@ WITHOUT_PLANNER = [
     ("best_prices",),
     ("unconstrained_prices",),
     ("ordering_loss",),
+    ("total_revenue", [8]),
+    ("is_ordered", [8]),
+    ("total_attendance", [8]),
+    ("count_ordered",),
+    ("best_with_price", 0, 8),
+    ("best_with_attendance", HUGE),
+    ("best_single_price", 0),
+    ("revenue_if_step", 8),
+    ("revenue_without", 0),
+    ("get_block", 0),
+    ("get_state",),
 ]
 
 ONE = [("create", 2, 1), ("add_block", 10, [9, 8, 7])]

@@ -1,4 +1,4 @@
-"""The examples of the document, as far as their operations are there."""
+"""The examples of the document, whole."""
 
 import unittest
 
@@ -18,8 +18,9 @@ class Examples(unittest.TestCase):
                 ("best_prices",),
                 ("unconstrained_prices",),
                 ("ordering_loss",),
+                ("best_with_attendance", 18),
             ),
-            [[0], [0], [1], [19, 2, 1], [0], [2], [17, 1, 1], [19, 1, 2], [2]],
+            [[0], [0], [1], [19, 2, 1], [0], [2], [17, 1, 1], [19, 1, 2], [2], [9, 1, 0]],
         )
 
     def test_fewer_seats_than_demand(self):
@@ -29,8 +30,12 @@ class Examples(unittest.TestCase):
                 ("add_block", 4, [9, 9, 9, 9]),
                 ("attendance", 0, 3),
                 ("revenue", 0, 3),
+                ("best_single_price", 0),
+                ("count_ordered",),
+                ("revenue_if_step", 1),
+                ("get_block", 0),
             ),
-            [[0], [0], [4], [12]],
+            [[0], [0], [4], [12], [3, 12], [4], [12], [4, 9, 9, 9, 9]],
         )
 
     def test_errors(self):
@@ -43,6 +48,7 @@ class Examples(unittest.TestCase):
                 ("add_block", 5, [1, 2, 0]),
                 ("add_block", 5, [1, 0]),
                 ("attendance", 0, 0),
+                ("best_with_attendance", 1),
             ),
-            [[-22], [-11], [0], [0], [-22], [-22], [-2]],
+            [[-22], [-11], [0], [0], [-22], [-22], [-2], [-33]],
         )

@@ -48,6 +48,17 @@ EVERY_OPERATION = [
     ("best_prices",),
     ("unconstrained_prices",),
     ("ordering_loss",),
+    ("total_revenue", [1, 2]),
+    ("is_ordered", [1, 2]),
+    ("total_attendance", [1, 2]),
+    ("count_ordered",),
+    ("best_with_price", 1, 2),
+    ("best_with_attendance", 12),
+    ("best_single_price", 1),
+    ("revenue_if_step", 0),
+    ("revenue_without", 1),
+    ("get_block", 1),
+    ("get_state",),
     ("remove_block", 0),
     ("best_prices",),
 ]
@@ -60,7 +71,29 @@ class Form(unittest.TestCase):
         self.assertEqual(answers(calls), [1, 0, 1, 0, 2, 10, 2, 1, -2])
 
     def test_without_blocks_the_total_revenue_alone(self):
-        self.assertEqual(answers([0, 1, 0, 9, 10, 11]), [1, 0, 1, 0, 1, 0, 1, 0])
+        self.assertEqual(answers([0, 1, 0, 9, 10, 11, 17, 0]), [1, 0, 1, 0, 1, 0, 1, 0, 1, 0])
+
+    def test_every_operation_is_tried(self):
+        self.assertEqual({call[0] for call in EVERY_OPERATION}, set(NUMBERS))
+
+    def test_every_operation_as_numbers(self):
+        self.assertEqual(
+            answers(written(EVERY_OPERATION)),
+            [
+                *(1, 0), *(1, 0), *(1, 1), *(1, -22), *(1, 10), *(1, 0), *(1, 1), *(1, 2),
+                # The blocks are (11, [9, 8, 7, 6]) and (9, [10, 8, 5, 1]), the step is 2.
+                *(1, 8), *(1, 10), *(3, 28, 3, 2), *(3, 28, 3, 2), *(1, 0),
+                *(1, 18), *(1, 0), *(1, 13), *(1, 9), *(3, 28, 3, 2), *(3, 26, 3, 1), *(2, 2, 10), *(1, 24), *(1, 18),
+                *(5, 9, 10, 8, 5, 1), *(3, 2, 3, 2),
+                *(1, 1), *(2, 10, 2),
+            ],
+        )
+
+    def test_numbers_of_the_calls_with_rows(self):
+        # create(2, 1), add_block(5, [4, 3, 2]), total_revenue([2]), total_revenue([]), is_ordered([1]),
+        # total_attendance([1]), total_attendance([1, 1]), get_block(0)
+        calls = [0, 2, 1, 1, 5, 3, 4, 3, 2, 12, 1, 2, 12, 0, 13, 1, 1, 14, 1, 1, 14, 2, 1, 1, 21, 0]
+        self.assertEqual(answers(calls), [1, 0, 1, 0, 1, 4, 1, -22, 1, 1, 1, 3, 1, -22, 4, 5, 4, 3, 2])
 
     def test_answers_are_plain_whole_numbers(self):
         results = answers(written(EVERY_OPERATION))
@@ -103,6 +136,23 @@ class Form(unittest.TestCase):
         calls.extend([("best_prices",)] * 250)
         self.assertEqual(run(*calls)[-1], [34965, 7, 7, 7, 7, 7])
 
+    def test_256_calls_that_look_at_every_list(self):
+        calls = [("create", 7, 7)]
+        calls.extend([("add_block", 999, [999] * 8)] * 5)
+        calls.extend([("count_ordered",), ("best_with_price", 4, 0), ("best_with_attendance", 4995)] * 83)
+        told = run(*calls, ("get_state",))
+        self.assertEqual(len(told), 256)
+        self.assertEqual(told[-4:], [[792], [27972, 7, 7, 7, 7, 0], [34965, 7, 7, 7, 7, 7], [5, 7, 7]])
+
+    def test_a_row_of_prices_of_every_length_is_read_to_its_end(self):
+        for length in range(13):
+            for name in ("total_revenue", "is_ordered", "total_attendance"):
+                with self.subTest(name=name, length=length):
+                    # Read as a call, none of these prices has a number.
+                    told = run(("create", 7, 0), (name, [60000] * length), ("get_state",))
+                    self.assertEqual(told[1] == [-22], length > 0)
+                    self.assertEqual(told[2], [0, 7, 0])
+
     def test_widest_arguments_are_refused_as_told(self):
         wide = [65535] * 12
         self.assertEqual(
@@ -123,10 +173,21 @@ class Form(unittest.TestCase):
                 ("attendance", 0, HUGE),
                 ("revenue", HUGE, HUGE),
                 ("revenue", 0, HUGE),
+                ("total_revenue", wide),
+                ("is_ordered", wide),
+                ("total_attendance", wide),
+                ("best_with_price", HUGE, HUGE),
+                ("best_with_price", 0, HUGE),
+                ("best_with_attendance", HUGE),
+                ("best_single_price", HUGE),
+                ("revenue_if_step", HUGE),
+                ("revenue_without", HUGE),
+                ("get_block", HUGE),
                 ("best_prices",),
             ),
             [
                 [-22], [0], [0], [-22], [-22], [-2], [-2], [-22], [-2], [-22], [-22], [-2], [-2], [-22], [-2], [-22],
+                [-22], [-22], [-22], [-2], [-22], [-33], [-2], [-22], [-2], [-2],
                 [2, 1],
             ],
         )

@@ -1,28 +1,11 @@
 """The queries: 7 to 11."""
 
-import random
 import unittest
 
-from tests.helper import HUGE, last, probe, run, slow_best, slow_singles, slow_tables
+from tests.helper import HUGE, last, planner_calls, run, slow_best, slow_is_ordered, slow_singles, slow_tables
+from tests.helper import some_planners
 
 ONE = [("create", 3, 1), ("add_block", 6, [9, 6, 5, 0])]
-
-
-def planner_calls(max_price, max_step, blocks):
-    return [("create", max_price, max_step), *[("add_block", seats, demand) for seats, demand in blocks]]
-
-
-def some_planners(count):
-    """Planners of all sizes; narrow ranges of demand make ties frequent."""
-    source = random.Random(20)
-    for number in range(count):
-        max_price = source.randint(1, 7)
-        widest = source.choice((1, 2, 5, 20, 999))
-        blocks = []
-        for block in range(number % 6):
-            demand = sorted((source.randint(0, widest) for price in range(max_price + 1)), reverse=True)
-            blocks.append((source.randint(0, widest), demand))
-        yield max_price, source.randint(0, 7), blocks
 
 
 class AttendanceAndRevenue(unittest.TestCase):
@@ -174,8 +157,7 @@ class UnconstrainedPrices(unittest.TestCase):
             calls = planner_calls(max_price, max_step, blocks)
             best, single = run(*calls, ("best_prices",), ("unconstrained_prices",))[-2:]
             self.assertGreaterEqual(single[0], best[0])
-            prices = single[1:]
-            if all(b <= a <= b + max_step for a, b in zip(prices, prices[1:])):
+            if slow_is_ordered(single[1:], max_step):
                 self.assertEqual(single[0], best[0])
 
 
@@ -196,31 +178,3 @@ class OrderingLoss(unittest.TestCase):
                     last(*planner_calls(max_price, max_step, blocks), ("ordering_loss",)),
                     [slow_singles(blocks)[0] - slow_best(blocks, max_price, max_step)[0]],
                 )
-
-
-class QueriesArePure(unittest.TestCase):
-    QUERIES = [
-        ("attendance", 0, 1),
-        ("attendance", 9, 1),
-        ("attendance", 0, 9),
-        ("revenue", 0, 1),
-        ("revenue", 9, 1),
-        ("revenue", 0, 9),
-        ("best_prices",),
-        ("unconstrained_prices",),
-        ("ordering_loss",),
-    ]
-
-    def test_asked_again_they_answer_the_same(self):
-        for max_price, max_step, blocks in some_planners(30):
-            told = run(*planner_calls(max_price, max_step, blocks), *self.QUERIES * 2)[1 + len(blocks):]
-            self.assertEqual(told[:len(self.QUERIES)], told[len(self.QUERIES):])
-
-    def test_they_change_nothing(self):
-        for max_price, max_step, blocks in some_planners(30):
-            calls = planner_calls(max_price, max_step, blocks)
-            asked = probe(max_price, [seats for seats, demand in blocks])
-            without = run(*calls, *asked)[len(calls):]
-            for query in self.QUERIES:
-                with self.subTest(query=query, blocks=blocks):
-                    self.assertEqual(run(*calls, query, *asked)[len(calls) + 1:], without)
